@@ -1,0 +1,16 @@
+package cycle
+
+import (
+	"cmp"
+
+	"saron/api"
+)
+
+func within(s api.Span, number int) bool { return s.Low <= number && number <= s.High }
+
+func greatest[N cmp.Ordered](first N, more ...N) N {
+	for _, n := range more {
+		first = max(first, n)
+	}
+	return first
+}
